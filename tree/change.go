@@ -5,6 +5,7 @@ import (
 
 	"dowser/api"
 	"dowser/node"
+	"dowser/spot"
 )
 
 // edit: what becomes of the leaf that a key belongs to, where that is its
@@ -48,20 +49,20 @@ func (d *draft) tops(key string, by edit) ([]node.Node, api.Errno) {
 // anew: what becomes of a node, one or two, which aren't drafted yet, for
 // those above may lay one that has too few entries together with another one.
 // What becomes of those below it is drafted.
-func (d *draft) anew(s spot, key string, by edit) ([]node.Node, api.Errno) {
-	n, e := d.tree.read(s)
+func (d *draft) anew(s spot.Spot, key string, by edit) ([]node.Node, api.Errno) {
+	n, e := s.Read(d.tree.pages)
 	if e != api.OK {
 		return nil, e
 	}
 	if n.Kind == node.Leaf {
 		return d.edited(n, key, by), api.OK
 	}
-	i := way(n, key)
-	below, e := d.anew(s.child(n, i), key, by)
+	i := spot.Way(n, key)
+	below, e := d.anew(s.Child(n, i), key, by)
 	if e != api.OK {
 		return nil, e
 	}
-	if below[0].Len() >= fewest {
+	if below[0].Len() >= spot.Fewest {
 		return parts(d.over(n, i, i+1, below)), api.OK
 	}
 	return d.mended(s, n, i, below[0])
@@ -79,12 +80,12 @@ func (d *draft) edited(leaf node.Node, key string, by edit) []node.Node {
 // mended: what becomes of a Branch whose i-th child has too few entries now:
 // that is laid together with the one behind it; the last child has but the one
 // ahead of it.
-func (d *draft) mended(s spot, n node.Node, i int, few node.Node) ([]node.Node, api.Errno) {
+func (d *draft) mended(s spot.Spot, n node.Node, i int, few node.Node) ([]node.Node, api.Errno) {
 	if i == n.Len()-1 {
-		ahead, e := d.tree.read(s.child(n, i-1))
+		ahead, e := s.Child(n, i-1).Read(d.tree.pages)
 		return parts(d.over(n, i-1, i+1, parts(node.Join(ahead, few)))), e
 	}
-	behind, e := d.tree.read(s.child(n, i+1))
+	behind, e := s.Child(n, i+1).Read(d.tree.pages)
 	return parts(d.over(n, i, i+2, parts(node.Join(few, behind)))), e
 }
 
@@ -114,7 +115,7 @@ func (d *draft) crown(tops []node.Node) Root {
 	if top.Len() == 0 {
 		return Empty()
 	}
-	if top.Kind == node.Branch && top.Len() < fewest {
+	if top.Kind == node.Branch && top.Len() < spot.Fewest {
 		return Root{top.Kids[0], root.Count + d.more, levels - 1}
 	}
 	return Root{d.add(top), root.Count + d.more, levels}
