@@ -1,6 +1,6 @@
 // Package spot says where a node of a tree is, and what it must be by those
-// above it. Layers 10 and 11 go down by it, so that both tell the same of what
-// is no tree.
+// above it. Layers 10, 11 and 14 go down by it, so that all tell the same of
+// what is no tree.
 package spot
 
 import (
@@ -56,6 +56,20 @@ func (s Spot) Read(p *pages.Pages) (node.Node, api.Errno) {
 		return node.Node{}, api.ErrBad
 	}
 	return n, api.OK
+}
+
+// Leaf: the one to which a key belongs, of those below a node, or that node
+// itself, and the least key that belongs behind it ("": there is none).
+func (s Spot) Leaf(p *pages.Pages, key string) (node.Node, string, api.Errno) {
+	n, e := s.Read(p)
+	for e == api.OK && n.Kind != node.Leaf {
+		s = s.Child(n, Way(n, key))
+		n, e = s.Read(p)
+	}
+	if e != api.OK {
+		return node.Node{}, "", e
+	}
+	return n, s.above, api.OK
 }
 
 // takes: may a node be there?

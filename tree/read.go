@@ -14,15 +14,9 @@ func (t *Tree) top() (spot.Spot, api.Errno) {
 // leaf: the one to which a key belongs, of a tree that has one.
 func (t *Tree) leaf(key string) (node.Node, api.Errno) {
 	s, e := t.top()
-	for e == api.OK {
-		var n node.Node
-		n, e = s.Read(t.pages)
-		if e == api.OK && n.Kind == node.Leaf {
-			return n, api.OK
-		}
-		if e == api.OK {
-			s = s.Child(n, spot.Way(n, key))
-		}
+	if e != api.OK {
+		return node.Node{}, e
 	}
-	return node.Node{}, e
+	n, _, e := s.Leaf(t.pages, key)
+	return n, e
 }
